@@ -15,6 +15,11 @@ METHODS = set("""append clear copy count endswith extend find get index insert i
     isupper items join keys ljust lower lstrip partition pop remove replace reverse rfind rjust rpartition rsplit
     rstrip setdefault split splitlines startswith strip update upper values zfill bit_length""".split())
 OWN_TOO = {"add", "discard", "title"}
+VALUES_TOO = set("count index find get join lower upper split strip copy".split())
+NO_VALUES = set("""items keys values pop update append clear extend insert remove reverse setdefault sort args encode
+    format""".split())
+WALKED = set("zip enumerate reversed range .items .keys .values".split())
+WALKERS = set("list tuple dict sorted sum any all enumerate zip".split())
 OWN_UNDERSCORED = {"__init__", "__eq__", "__repr__", "__str__", "__len__"}
 NEVER = set("register mro elements open input version_info with_traceback add_note format format_map".split())
 NO_WORDS = re.compile(r"\b(type|typing|typing_extensions|enum|Enum|IntEnum|StrEnum|Flag|IntFlag|Generic|Protocol|ABC"
@@ -54,6 +59,8 @@ class Look:
     def all_found(self):
         self.look_at_rows()
         self.look_at_the_top()
+        self.look_at_locals()
+        self.look_at_walks()
         for node in ast.walk(self.tree):
             if isinstance(node, ast.stmt):
                 self.look_at_statement(node)
@@ -171,6 +178,47 @@ class Look:
                 self.say("L12", node)
 
 
+    def look_at_locals(self):
+        taken = {node.name for node in self.tree.body if isinstance(node, ast.ClassDef)}
+        for node in self.tree.body:
+            if isinstance(node, ast.ImportFrom):
+                taken |= {alias.name for alias in node.names}
+        for node in ast.walk(self.tree):
+            if isinstance(node, ast.Name) and isinstance(node.ctx, ast.Store) and node.id in taken:
+                self.say("L15", node)
+            if isinstance(node, ast.arg) and node.arg in taken:
+                self.say("L15", node)
+
+    def look_at_walks(self):
+        above = {below: node for node in ast.walk(self.tree) for below in ast.iter_child_nodes(node)}
+        for node in ast.walk(self.tree):
+            if isinstance(node, ast.Call) and called(node) in WALKED and not walked_at_once(node, above[node]):
+                self.say("L23", node)
+            if isinstance(node, ast.Call) and called(node) in ("set", "frozenset"):
+                beside = isinstance(above[node], (ast.Compare, ast.BinOp))
+                if not beside and called(above[node]) not in ("sorted", "len"):
+                    self.say("L24", node)
+            if isinstance(node, ast.Attribute) and node.attr in METHODS - VALUES_TOO:
+                if not isinstance(above[node], ast.Call) or above[node].func != node:
+                    self.say("L25", node)
+
+
+def called(node):
+    if not isinstance(node, ast.Call):
+        return None
+    if isinstance(node.func, ast.Name):
+        return node.func.id
+    return "." + node.func.attr if isinstance(node.func, ast.Attribute) else None
+
+
+def walked_at_once(node, above):
+    if isinstance(above, (ast.For, ast.comprehension)):
+        return above.iter == node
+    if called(above) in ("min", "max", ".join"):
+        return len(above.args) == 1
+    return called(above) in WALKERS and above.args[0] == node
+
+
 def is_python_name(name):
     builtins = __builtins__ if isinstance(__builtins__, dict) else vars(__builtins__)
     return name in builtins
@@ -191,6 +239,38 @@ class Language(unittest.TestCase):
             with self.subTest(path.name):
                 self.assertEqual(Look(path.read_text(encoding="utf-8")).all_found(), [])
 
+    def trees(self):
+        return {path.stem: ast.parse(path.read_text(encoding="utf-8")) for path in sorted(PACKAGE.glob("*.py"))}
+
+    def test_no_name_is_a_method_and_a_value(self):
+        methods, values = set(), set()
+        for tree in self.trees().values():
+            for node in ast.walk(tree):
+                if isinstance(node, ast.ClassDef):
+                    names = [one.name for one in node.body if isinstance(one, ast.FunctionDef)]
+                    self.assertEqual(len(names), len(set(names)))
+                    methods |= set(names)
+                if isinstance(node, ast.Attribute) and isinstance(node.ctx, ast.Store):
+                    values.add(node.attr)
+        self.assertEqual(methods & values, set())
+        self.assertEqual(values & NO_VALUES, set())
+
+    def test_names_are_drawn_from_the_file_that_defines_them_and_no_files_from_one_another(self):
+        trees = self.trees()
+        drawn = {name: [node for node in tree.body if isinstance(node, ast.ImportFrom)]
+                 for name, tree in trees.items()}
+        for name, nodes in drawn.items():
+            for node in nodes:
+                tops = [getattr(one, "name", None) or one.targets[0].id for one in trees[node.module.split(".")[1]].body
+                        if isinstance(one, (ast.FunctionDef, ast.ClassDef, ast.Assign))]
+                for alias in node.names:
+                    self.assertIn(alias.name, tops, name)
+        left = {name: {node.module.split(".")[1] for node in nodes} for name, nodes in drawn.items()}
+        while left:
+            free = [name for name in left if not left[name] & set(left)]
+            self.assertNotEqual(free, [], left)
+            left = {name: below for name, below in left.items() if name not in free}
+
     def test_the_look_finds_what_is_outside(self):
         for rule, source in [("L3", "import os"), ("L2", "from os import path"), ("L3", "if 1:\n    pass"),
                              ("L4", "def f(*xs):\n    return xs"), ("L5", "class A:\n    x = 1"),
@@ -199,6 +279,10 @@ class Language(unittest.TestCase):
                              ("L8", "def f(x):\n    return hash(x)"), ("L10", "x = 1" + " " * 120),
                              ("L12", "def f(x):\n    _a = x\n    return _a"), ("L15", "def f(x):\n    min = x"),
                              ("L17", "# a type"), ("L20", "def f(x, y):\n    return x is y"),
+                             ("L15", "class A:\n    pass\ndef f(A):\n    return A"),
+                             ("L23", "def f(x):\n    y = zip(x, x)\n    return list(y)"),
+                             ("L23", "def f(x):\n    return zip(list(x), x.items())"),
+                             ("L24", "def f(x):\n    return list(set(x))"), ("L25", "def f(x):\n    return x.append"),
                              ("L25", "def f(x):\n    x.sort()"), ("L27", "x = '%'")]:
             with self.subTest(source):
                 self.assertIn(rule, [found for found, line in Look(source).all_found()])
