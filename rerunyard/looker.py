@@ -1,6 +1,6 @@
 """The faults of a program: names that none of their kind has, and starts with too many or too few numbers."""
 
-from rerunyard.statements import bodies_of
+from rerunyard.parts import bodies_of
 
 
 def faults(program):

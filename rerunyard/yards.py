@@ -1,7 +1,7 @@
 """The yard: what runs by statements and runs by code have in common."""
 
-from rerunyard.copies import frozen
 from rerunyard.goods import Goods
+from rerunyard.parts import frozen
 
 MOST_STATEMENTS = 100
 MOST_HANDS = 60

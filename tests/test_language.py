@@ -145,7 +145,7 @@ class Look:
         elif isinstance(node, ast.Attribute):
             if node.attr in NEVER or (node.attr.startswith("_") and node.attr not in OWN_UNDERSCORED):
                 self.say("L17", node)
-            if is_python_method(node.attr) and node.attr not in METHODS | OWN_TOO:
+            if is_python_method(node.attr) and node.attr not in METHODS | OWN_TOO | OWN_UNDERSCORED:
                 self.say("L25", node)
 
     def look_at_is(self, node):
