@@ -21,9 +21,13 @@ def is_name(word):
             and all([sign in LETTERS for sign in word]))
 
 
-# The length is asked first: Python's own int refuses a word of some thousands of figures.
 def is_number(word):
-    return (1 <= len(word) <= MOST_FIGURES and (word == "0" or not word.startswith("0"))
+    return is_whole(word, MOST_FIGURES)
+
+
+# The length is asked first: Python's own int refuses a word of some thousands of figures.
+def is_whole(word, most):
+    return (1 <= len(word) <= most and (word == "0" or not word.startswith("0"))
             and all([sign in FIGURES for sign in word]))
 
 
